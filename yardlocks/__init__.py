@@ -1,0 +1,1 @@
+"""An interlocking: the signals, points and routes of a yard."""
