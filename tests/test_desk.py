@@ -3,16 +3,17 @@
 import contextlib
 import inspect
 import io
-import random
 import sys
 import unittest
 from unittest import mock
 
-from calls import HIGHEST, LOWEST, SECTION
-from calls import cancel, may, one_list, points, raw_route, route, set_, signal, taken_apart
+from calls import SECTION
+from calls import ask_rows, look, may, one_list, points, route, set_, signal, taken_apart, tell_route, track
+from somecalls import ROUTES, SECTIONS, some_calls, some_trains
 from yardlocks.desk import answers
 
-BUILT = [SECTION] * 6 + [points(k) for k in range(6)] + [signal(-1), signal(0), signal(5)]
+# The calls that only ask: may, aspect and the three that tell.
+ASKING = (5, 11, 12, 13, 14)
 
 
 class OnlyRead(list):
@@ -23,38 +24,6 @@ class OnlyRead(list):
 
     append = extend = insert = pop = remove = clear = sort = reverse = refuse
     __setitem__ = __delitem__ = __iadd__ = __imul__ = refuse
-
-
-def some_number(source, most):
-    return source.choice([source.randrange(most), source.randrange(most), -1, most, LOWEST, HIGHEST])
-
-
-def some_route(source):
-    of_signal, own, n, m = source.randrange(4), source.randrange(4), source.randrange(5), source.randrange(4)
-    if not (1 <= own <= n and 1 <= n):
-        return raw_route(of_signal, own, n, m)
-    sections = [source.randrange(7) for k in range(n)]
-    return route(of_signal, own, sections, [(source.randrange(7), source.choice([0, 1, 1, 2])) for k in range(m)])
-
-
-def some_call(source):
-    kind = source.choice("route route may set set set cancel points signal section".split())
-    if kind == "section":
-        return SECTION
-    if kind == "points":
-        return points(some_number(source, 6))
-    if kind == "signal":
-        return signal(some_number(source, 6))
-    if kind == "route":
-        return some_route(source)
-    number = some_number(source, 12)
-    return {"may": may, "set": set_, "cancel": cancel}[kind](number)
-
-
-def some_calls(seed):
-    source = random.Random(seed)
-    calls = BUILT + [some_call(source) for k in range(300)]
-    return calls
 
 
 class FormTest(unittest.TestCase):
@@ -68,6 +37,21 @@ class FormTest(unittest.TestCase):
 
     def test_a_refusal_is_one_number_too(self):
         self.assertEqual(answers([2, 0, 3, 0, 4, 0, 1, 1, 0, 1, 0, 5, 0, 6, 0, 7, 0]), [1, -2] * 6)
+        self.assertEqual(answers([8, 0, 1, 9, 0, 1, 10, 0, 11, 0, 12, 0, 13, 0, 14, 0]), [1, -2] * 7)
+
+    def test_the_tell_calls_tell_more_behind_their_0(self):
+        built = [1, 1, 2, 1, 3, -1, 4, 0, 1, 2, 1, 4, 1, 0, 0, 1, 6, 0, 8, 1, 1, 9, 0, 1, 10, 5]
+        told = [1, 0, 1, 1, 1, 0, 1, 0, 1, 0, 1, 0, 1, 0, 1, 0, 1, 0]
+        self.assertEqual(answers(built), told)
+        asked = [11, 0, 12, 0, 12, 1, 13, 0, 14, 0, 12, 2, 13, 1, 14, 1, 11, 0]
+        told += [1, 0, 3, 0, 0, 0, 3, 0, 1, 0, 4, 0, 1, 1, 1, 4, 0, -1, 1, 0, 1, -2, 1, -2, 1, -2, 1, 0]
+        self.assertEqual(answers(built + asked), told)
+
+    def test_calls_of_two_numbers_are_passed_over_whole(self):
+        # Their second numbers, read as calls, would be sections.
+        self.assertEqual(answers([8, 0, 1, 1]), [1, -2, 1, 0])
+        self.assertEqual(answers([9, 0, 1, 1]), [1, -2, 1, 0])
+        self.assertEqual(answers([10, 1, 11, 1, 12, 1, 13, 1, 14, 1, 1]), [1, 0] + [1, -2] * 4 + [1, 0])
 
     def test_a_refused_routes_row_is_passed_over(self):
         # Its numbers, read as calls, would be sections.
@@ -75,9 +59,10 @@ class FormTest(unittest.TestCase):
         self.assertEqual(answers([4, 64, 1, 3, 1, 0, 1]), [1, -2, 1, 0])
 
     def test_the_answer_is_a_list_of_whole_numbers(self):
-        told = answers(one_list(some_calls(0)))
-        self.assertIs(type(told), list)
-        self.assertEqual({type(number) for number in told}, {int})
+        for seed in range(10):
+            told = answers(one_list(some_calls(seed))) + answers(one_list(some_trains(seed)))
+            self.assertIs(type(told), list)
+            self.assertEqual({type(number) for number in told}, {int})
 
     def test_500_calls_with_the_longest_rows(self):
         sections, pairs = range(16), [(which, 1) for which in range(16)]
@@ -85,8 +70,29 @@ class FormTest(unittest.TestCase):
         told = [row[0] for row in taken_apart(answers(one_list(calls)))]
         self.assertEqual(told, [*range(16), *range(16), 0, *range(256)] + [-8] * 211)
 
+    def test_500_calls_with_many_routes_under_way(self):
+        # 60 routes of a section each, each with a train in it.
+        built = [SECTION] * 60 + [signal(-1)] * 60 + [route(k, 1, [k]) for k in range(60)]
+        built += [set_(k) for k in range(60)] + [track(k, 1) for k in range(60)]
+        calls = built + [tell_route(k) for k in range(60)] + [track(k, 0) for k in range(60)]
+        calls += [tell_route(k) for k in range(60)] + [[10, 3600]] * 20
+        self.assertEqual(len(calls), 500)
+        told = ask_rows(calls)
+        self.assertEqual(told[:180], [[k % 60] for k in range(180)])
+        self.assertEqual(told[180:300], [[0]] * 120)
+        self.assertEqual(told[300:360], [[0, -1, 1, 0]] * 60)
+        self.assertEqual(told[360:420], [[0]] * 60)
+        self.assertEqual(told[420:], [[0, 0, 0, 0]] * 60 + [[0]] * 20)
+
+    def test_500_mixed_calls(self):
+        for seed in range(5):
+            calls = some_calls(seed, 500)
+            self.assertEqual(len(calls), 500)
+            self.assertEqual(len(ask_rows(calls)), 500)
+
     def test_long_lists_are_gone_through_by_loops(self):
-        calls = one_list([SECTION] * 64 + [signal(-1)] + [route(0, 1, [0])] * 256 + [may(255)] * 179)
+        built = [SECTION] * 64 + [signal(-1)] + [route(0, 1, [0])] * 256
+        calls = one_list(built + [may(255)] * 89 + [track(0, 1)] * 90)
         limit = sys.getrecursionlimit()
         sys.setrecursionlimit(len(inspect.stack()) + 40)
         try:
@@ -97,9 +103,12 @@ class FormTest(unittest.TestCase):
 
 
 class NothingLeftBehindTest(unittest.TestCase):
+    # Short enough for LOOK behind them, since a list has at most 500 calls.
+    LISTS = [some_calls(seed, 470) for seed in range(20)] + [some_trains(seed, 470) for seed in range(20)]
+    LOOK = look(SECTIONS, 6, 4, ROUTES)
+
     def test_what_is_handed_in_is_not_changed(self):
-        for seed in range(20):
-            calls = one_list(some_calls(seed))
+        for calls in map(one_list, self.LISTS):
             told = answers(OnlyRead(calls))
             self.assertEqual(told, answers(list(calls)))
             handed = list(calls)
@@ -107,11 +116,10 @@ class NothingLeftBehindTest(unittest.TestCase):
             self.assertEqual(handed, calls)
 
     def test_a_second_time_is_like_the_first(self):
-        for seed in range(20):
-            calls = one_list(some_calls(seed))
+        for calls in map(one_list, self.LISTS):
             first = answers(calls)
             kept = list(first)
-            self.assertEqual(answers([1, 3, 0]), [1, 0, 1, 0])
+            self.assertEqual(answers([1, 3, 0, 12, 0, 13, 0, 14, 0]), [1, 0, 1, 0, 3, 0, 0, -1, 1, -2, 1, -2])
             second = answers(calls)
             self.assertEqual(second, kept)
             self.assertEqual(first, kept)
@@ -121,36 +129,36 @@ class NothingLeftBehindTest(unittest.TestCase):
         answers([]).append(5)
         self.assertEqual(answers([]), [])
 
-    def test_what_is_refused_and_may_change_nothing(self):
-        refused = 0
-        for seed in range(60):
-            calls = some_calls(seed)
-            rows = taken_apart(answers(one_list(calls)))
-            left = [(call, row) for call, row in zip(calls, rows) if row[0] >= 0 and call[0] != 5]
-            refused += len(rows) - len(left)
-            told = taken_apart(answers(one_list([call for call, row in left])))
-            self.assertEqual(told, [row for call, row in left], seed)
-        self.assertGreater(refused, 60 * 50)
+    def test_what_is_refused_and_what_only_asks_changes_nothing(self):
+        left_out = 0
+        for calls in self.LISTS:
+            rows = ask_rows(calls + self.LOOK)
+            kept = [(call, row) for call, row in zip(calls, rows) if row[0] >= 0 and call[0] not in ASKING]
+            left_out += len(calls) - len(kept)
+            told = ask_rows([call for call, row in kept] + self.LOOK)
+            self.assertEqual(told, [row for call, row in kept] + rows[len(calls):])
+        self.assertGreater(left_out, len(self.LISTS) * 100)
 
-    def test_every_refusal_is_met_by_some_calls(self):
+    def test_every_refusal_is_met_by_these_lists(self):
         met = set()
-        for seed in range(60):
-            calls = some_calls(seed)
-            rows = taken_apart(answers(one_list(calls)))
-            met |= {(call[0], min(row[0], 0)) for call, row in zip(calls, rows)}
+        for calls in self.LISTS:
+            met |= {(call[0], min(row[0], 0)) for call, row in zip(calls, ask_rows(calls))}
+        for kind in range(2, 15):
+            self.assertLessEqual({(kind, 0), (kind, -2)}, met)
         for kind in (5, 6):
-            self.assertLessEqual({(kind, answer) for answer in (0, -2, -3, -4, -5)}, met)
-        self.assertLessEqual({(7, 0), (7, -2), (7, -3)}, met)
+            self.assertLessEqual({(kind, answer) for answer in (-3, -4, -5)}, met)
+        self.assertIn((7, -3), met)
 
     def test_nothing_is_printed_read_or_imported(self):
-        calls = one_list(some_calls(1))
+        lists = [one_list(calls) for calls in self.LISTS]
         out, err = io.StringIO(), io.StringIO()
         known = set(sys.modules)
         forbidden = mock.Mock(side_effect=AssertionError("the program reads"))
         with contextlib.redirect_stdout(out), contextlib.redirect_stderr(err):
             with mock.patch("builtins.open", forbidden), mock.patch("builtins.input", forbidden):
                 with mock.patch("sys.stdin", None):
-                    answers(calls)
+                    for calls in lists:
+                        answers(calls)
         self.assertEqual((out.getvalue(), err.getvalue()), ("", ""))
         self.assertEqual(set(sys.modules) - known, set())
 

@@ -84,6 +84,18 @@ class LanguageTest(unittest.TestCase):
             for alias in node.names:
                 self.assertIn(alias.name, names, at)
 
+    def test_no_two_files_draw_from_one_another(self):
+        drawn = {file.stem: set() for file in FILES}
+        for file in FILES:
+            for node in ast.parse(file.read_text()).body:
+                if isinstance(node, ast.ImportFrom):
+                    drawn[file.stem].add(node.module.split(".")[1])
+        while drawn:
+            ready = [stem for stem, others in drawn.items() if not others & set(drawn)]
+            self.assertTrue(ready, drawn)
+            for stem in ready:
+                drawn.pop(stem)
+
     def test_statements_and_expressions(self):
         for node, at in nodes(ast.stmt):
             self.assertIsInstance(node, STATEMENTS, at)

@@ -1,40 +1,36 @@
-"""Points 4 and 7 of the document, and the words ahead of them: may, set and cancel."""
+"""Point 4 of the document, and the words ahead of it: may and set, and which points are held."""
 
 import unittest
 
 from calls import HIGHEST, LOWEST, SECTION
-from calls import ask_last, cancel, may, points, route, set_, signal
-from yardlocks.building import add_points, add_route, add_section, add_signal
-from yardlocks.locking import are_held, cancel_route, may_set, set_route
-from yardlocks.things import Yard
+from calls import ask_last, ask_rows_last, cancel, found, look, may, points, route, set_, signal
+from calls import aspect, tell_route, tell_section, track, tracks
 
-# 8 sections, points k in section k, and 4 signals without a section before them.
-BUILT = [SECTION] * 8 + [points(k) for k in range(8)] + [signal(-1)] * 4
+# 8 sections, points k in section k, 3 signals without a section before them, and signal 3 with section 6 before it.
+BUILT = [SECTION] * 8 + [points(k) for k in range(8)] + [signal(-1)] * 3 + [signal(6)]
 
 
 def ask_routes(routes, calls):
     return ask_last(BUILT + routes, calls)
 
 
-def built_yard():
-    """The same, but signal k has section k before it."""
-    yard = Yard()
-    for section in range(8):
-        add_section(yard)
-        add_points(yard, section)
-    for before in range(4):
-        add_signal(yard, before)
-    return yard
+LOOK = look(8, 8, 4, 4)
 
 
-def with_route(yard, of_signal, sections, pairs=()):
-    given = list(sections) + [number for pair in pairs for number in pair]
-    return add_route(yard, of_signal, 1, len(sections), len(pairs), given)
+def rows_of_routes(routes, calls, asked):
+    return ask_rows_last(BUILT + routes + calls, asked)
 
 
-def picture(yard):
-    """All that the yard knows, to be held against a later one."""
-    return repr([[dict(vars(thing)) for thing in things] for things in (yard.sections, yard.points, yard.routes)])
+def locked_for(routes, calls):
+    return [row[2] for row in rows_of_routes(routes, calls, LOOK[:8])]
+
+
+def told_and_found(routes, calls):
+    return [row[1:3] for row in rows_of_routes(routes, calls, LOOK[8:16])]
+
+
+def held(routes, calls):
+    return [which for which, row in enumerate(rows_of_routes(routes, calls, LOOK[8:16])) if row[3] == 1]
 
 
 class NoSuchRouteTest(unittest.TestCase):
@@ -56,11 +52,7 @@ class MayAndSetTest(unittest.TestCase):
     def test_may_changes_nothing(self):
         routes = [route(0, 1, [0], [(0, 1)]), route(1, 1, [0], [(0, 0)])]
         self.assertEqual(ask_routes(routes, [may(0), may(0), may(1), cancel(0)]), [0, 0, 0, -3])
-        yard = built_yard()
-        with_route(yard, 0, [0, 1], [(0, 1)])
-        before = picture(yard)
-        self.assertEqual(may_set(yard, 0), 0)
-        self.assertEqual(picture(yard), before)
+        self.assertEqual(rows_of_routes(routes, [may(0), may(1)], LOOK[:-2]), rows_of_routes(routes, [], LOOK[:-2]))
 
     def test_a_route_that_is_set_keeps_its_signal(self):
         routes = [route(2, 1, [0]), route(2, 1, [1]), route(1, 1, [2])]
@@ -121,24 +113,25 @@ class MayAndSetTest(unittest.TestCase):
         self.assertEqual(ask_routes(routes, asked), [0, 0, -5, 0, -5, 0, 0])
 
     def test_set_tells_points_where_to_lie(self):
-        yard = built_yard()
-        with_route(yard, 0, [0, 1], [(0, 1), (1, 0), (6, 1)])
-        with_route(yard, 0, [0, 1], [(0, 0), (1, 1)])
-        self.assertEqual(set_route(yard, 0), 0)
-        self.assertEqual([there.told for there in yard.points], [1, 0, 0, 0, 0, 0, 1, 0])
-        self.assertEqual([there.found for there in yard.points], [2] * 8)
-        self.assertEqual([there.locked_for for there in yard.sections], [0, 0] + [-1] * 6)
-        self.assertEqual(cancel_route(yard, 0), 0)
-        self.assertEqual(set_route(yard, 1), 0)
-        self.assertEqual([there.told for there in yard.points], [0, 1, 0, 0, 0, 0, 1, 0])
-        self.assertEqual([there.locked_for for there in yard.sections], [1, 1] + [-1] * 6)
+        routes = [route(0, 1, [0, 1], [(0, 1), (1, 0), (6, 1)]), route(0, 1, [0, 1], [(0, 0), (1, 1)])]
+        calls = [found(0, 0), found(6, 1), set_(0)]
+        told = [[1, 0], [0, 2], [0, 2], [0, 2], [0, 2], [0, 2], [1, 1], [0, 2]]
+        self.assertEqual(told_and_found(routes, calls), told)
+        self.assertEqual(locked_for(routes, calls), [0, 0] + [-1] * 6)
+        calls += [cancel(0), set_(1)]
+        told = [[0, 0], [1, 2], [0, 2], [0, 2], [0, 2], [0, 2], [1, 1], [0, 2]]
+        self.assertEqual(told_and_found(routes, calls), told)
+        self.assertEqual(locked_for(routes, calls), [1, 1] + [-1] * 6)
 
     def test_a_route_that_is_set_anew_has_no_train_in(self):
-        yard = built_yard()
-        with_route(yard, 0, [0])
-        yard.routes[0].train_in = True
-        self.assertEqual(set_route(yard, 0), 0)
-        self.assertEqual((yard.routes[0].state, yard.routes[0].train_in), (-1, False))
+        routes = [route(0, 2, [0, 1])]
+        through = [set_(0)] + tracks((0, 1), (1, 1), (0, 0), (1, 0))
+        asked = [set_(0), tell_route(0), tell_section(0), tell_section(1), aspect(0), cancel(0)]
+        told = rows_of_routes(routes, through, asked)
+        self.assertEqual(told, [[0], [0, -1, 0, 0], [0, 0, 0], [0, 0, 0], [1], [0]])
+        # What the last train did doesn't count for the next one.
+        told = rows_of_routes(routes, through + [set_(0)] + tracks((0, 1), (0, 0)), [tell_route(0), tell_section(0)])
+        self.assertEqual(told, [[0, -1, 1, 0], [0, 0, 0]])
 
     def test_points_stay_as_they_were_told_after_a_cancel(self):
         routes = [
@@ -149,22 +142,31 @@ class MayAndSetTest(unittest.TestCase):
         self.assertEqual(ask_routes(routes, asked), [0, 0, 0, 0, -5])
 
     def test_an_occupied_section_keeps_routes_out(self):
+        routes = [route(0, 1, [2, 3, 4]), route(1, 1, [5]), route(1, 1, [0]), route(1, 1, [0])]
         for section in (2, 3, 4):
-            yard = built_yard()
-            with_route(yard, 0, [2, 3, 4])
-            with_route(yard, 1, [5])
-            yard.sections[section].occupied = 1
-            before = picture(yard)
-            self.assertEqual([may_set(yard, 0), set_route(yard, 0)], [-4, -4])
-            self.assertEqual(picture(yard), before)
-            self.assertEqual(may_set(yard, 1), 0)
+            asked = [track(section, 1), may(0), set_(0), may(1), track(section, 0), may(0), set_(0)]
+            self.assertEqual(ask_routes(routes, asked), [0, -4, -4, 0, 0, 0, 0], section)
+            occupied = rows_of_routes(routes, [track(section, 1)], LOOK)
+            self.assertEqual(rows_of_routes(routes, [track(section, 1), set_(0)], LOOK), occupied, section)
+
+    def test_minus_3_comes_before_minus_4_of_an_occupied_section(self):
+        routes = [route(0, 1, [0]), route(0, 1, [1]), route(1, 1, [1])]
+        self.assertEqual(ask_routes(routes, [set_(0), track(1, 1), may(1), may(2)]), [0, 0, -3, -4])
+
+    def test_minus_4_of_an_occupied_section_comes_before_minus_5(self):
+        routes = [route(0, 1, [0], [(5, 1)])]
+        asked = [track(0, 1), track(5, 1), may(0), track(0, 0), may(0), track(5, 0), may(0)]
+        self.assertEqual(ask_routes(routes, asked), [0, 0, -4, 0, -5, 0, 0])
 
     def test_points_in_an_occupied_section_cant_be_moved(self):
-        yard = built_yard()
-        with_route(yard, 0, [0], [(1, 1), (5, 1)])
-        with_route(yard, 0, [0], [(1, 1), (5, 0)])
-        yard.sections[5].occupied = 1
-        self.assertEqual([may_set(yard, 0), may_set(yard, 1)], [-5, 0])
+        routes = [route(0, 1, [0], [(1, 1), (5, 1)]), route(0, 1, [0], [(1, 1), (5, 0)])]
+        asked = [track(5, 1), may(0), set_(0), may(1), track(5, 0), may(0), track(5, 1), set_(1)]
+        self.assertEqual(ask_routes(routes, asked), [0, -5, -5, 0, 0, 0, 0, 0])
+
+    def test_where_points_are_found_doesnt_matter_only_where_they_are_told(self):
+        routes = [route(0, 1, [0], [(5, 1)]), route(0, 1, [0], [(5, 0)])]
+        for where in (0, 1, 2):
+            self.assertEqual(ask_routes(routes, [found(5, where), track(5, 1), may(0), may(1)]), [0, 0, -5, 0])
 
     def test_a_refused_set_changes_nothing(self):
         routes = [
@@ -173,126 +175,68 @@ class MayAndSetTest(unittest.TestCase):
         ]
         wrong = [set_(0), set_(1), set_(2), set_(3), set_(4), set_(-1), cancel(1), cancel(4)]
         self.assertEqual(ask_routes(routes, [set_(0)] + wrong), [0, -3, -4, -5, -3, -2, -2, -3, -2])
-        yard = built_yard()
-        for call in routes:
-            add_route(yard, call[1], call[2], call[3], call[4], call[6:])
-        self.assertEqual(set_route(yard, 0), 0)
-        before = picture(yard)
-        self.assertEqual([set_route(yard, number) for number in (0, 1, 2, 3, 4, -1)], [-3, -4, -5, -3, -2, -2])
-        self.assertEqual([cancel_route(yard, number) for number in (1, 2, 4, -1)], [-3, -3, -2, -2])
-        self.assertEqual(picture(yard), before)
+        before = rows_of_routes(routes, [set_(0)], LOOK)
+        self.assertEqual(rows_of_routes(routes, [set_(0)] + wrong, LOOK), before)
 
 
 class HeldTest(unittest.TestCase):
     def test_points_that_no_route_under_way_names_arent_held(self):
-        yard = built_yard()
-        with_route(yard, 0, [0, 1], [(0, 1), (7, 1)])
-        self.assertFalse(any(are_held(yard, which) for which in range(8)))
-        set_route(yard, 0)
-        self.assertEqual([which for which in range(8) if are_held(yard, which)], [0, 7])
-        cancel_route(yard, 0)
-        self.assertFalse(any(are_held(yard, which) for which in range(8)))
+        routes = [route(0, 1, [0, 1], [(0, 1), (7, 1)])]
+        self.assertEqual(held(routes, []), [])
+        self.assertEqual(held(routes, [set_(0)]), [0, 7])
+        self.assertEqual(held(routes, [set_(0), cancel(0)]), [])
+
+    def test_points_are_held_however_they_must_lie(self):
+        self.assertEqual(held([route(0, 1, [0], [(0, 0), (3, 0), (4, 1)])], [set_(0)]), [0, 3, 4])
+
+    def test_points_in_a_routes_sections_that_it_doesnt_name_arent_held(self):
+        self.assertEqual(held([route(0, 1, [0, 1, 2], [(1, 1)])], [set_(0)]), [1])
 
     def test_points_are_held_only_as_long_as_their_section_is_locked_for_the_route(self):
-        yard = built_yard()
-        with_route(yard, 0, [0, 1], [(0, 1), (7, 1)])
-        with_route(yard, 1, [2], [(0, 0)])
-        set_route(yard, 0)
-        self.assertEqual(may_set(yard, 1), -5)
-        yard.sections[0].locked_for = -1
-        self.assertEqual([are_held(yard, 0), are_held(yard, 7), may_set(yard, 1)], [False, True, 0])
-        yard.sections[0].locked_for = 1
-        self.assertFalse(are_held(yard, 0))
+        # Points 7 lie outside the route's sections, points 2 beyond the train's own.
+        routes = [route(0, 2, [0, 1, 2], [(0, 1), (1, 1), (2, 1), (7, 1)]), route(1, 1, [3], [(0, 0)])]
+        calls = [set_(0)] + tracks((0, 1), (1, 1))
+        self.assertEqual(held(routes, calls), [0, 1, 2, 7])
+        self.assertEqual(ask_routes(routes, calls + [may(1)])[-1], -5)
+        calls += tracks((0, 0))
+        self.assertEqual(held(routes, calls), [1, 2, 7])
+        self.assertEqual(ask_routes(routes, calls + [may(1)])[-1], 0)
+        calls += tracks((1, 0))
+        self.assertEqual(held(routes, calls), [])
+
+    def test_points_whose_section_is_locked_for_another_route_by_then_arent_held_by_the_first(self):
+        routes = [route(0, 2, [0, 1], [(0, 1), (7, 1)]), route(1, 1, [0])]
+        calls = [set_(0)] + tracks((0, 1), (1, 1), (0, 0)) + [set_(1)]
+        self.assertEqual(locked_for(routes, calls)[:2], [1, 0])
+        self.assertEqual(held(routes, calls), [7])
+
+    def test_points_may_be_told_otherwise_once_they_are_no_longer_held(self):
+        routes = [route(0, 2, [0, 1], [(0, 1), (7, 1)]), route(1, 1, [0], [(0, 0)]), route(2, 1, [5], [(7, 0)])]
+        calls = [set_(0)] + tracks((0, 1), (1, 1), (0, 0))
+        self.assertEqual(ask_routes(routes, calls + [set_(1), may(2)])[-2:], [0, -5])
+        self.assertEqual(told_and_found(routes, calls + [set_(1)])[0], [0, 2])
+        self.assertEqual(held(routes, calls + [set_(1)]), [0, 7])
+
+    def test_points_outside_a_routes_sections_are_held_until_its_idle(self):
+        routes = [route(0, 2, [0, 1, 2], [(7, 1)]), route(1, 1, [5], [(7, 0)])]
+        calls = [set_(0)]
+        for pair in ((0, 1), (1, 1), (0, 0)):
+            calls.append(track(*pair))
+            self.assertEqual((held(routes, calls), ask_routes(routes, calls + [may(1)])[-1]), ([7], -5), pair)
+        calls.append(track(1, 0))
+        self.assertEqual((held(routes, calls), ask_routes(routes, calls + [may(1)])[-1]), ([], 0))
+
+    def test_an_occupied_or_locked_section_alone_doesnt_hold_points(self):
+        self.assertEqual(held([route(0, 1, [3])], [set_(0), track(5, 1)]), [])
+
+    def test_points_that_two_routes_hold_are_held_until_both_are_idle(self):
+        routes = [route(0, 1, [0], [(7, 1)]), route(1, 1, [1], [(7, 1)])]
+        self.assertEqual(held(routes, [set_(0), set_(1), cancel(0)]), [7])
+        self.assertEqual(held(routes, [set_(0), set_(1), cancel(0), cancel(1)]), [])
 
     def test_a_route_that_is_being_given_back_holds_its_points(self):
-        yard = built_yard()
-        with_route(yard, 3, [0], [(0, 1), (7, 1)])
-        set_route(yard, 0)
-        yard.sections[3].occupied = 1
-        cancel_route(yard, 0)
-        self.assertEqual([which for which in range(8) if are_held(yard, which)], [0, 7])
-
-
-class CancelTest(unittest.TestCase):
-    def test_an_idle_route_cant_be_cancelled(self):
-        self.assertEqual(ask_routes([route(0, 1, [0])], [cancel(0)]), [-3])
-
-    def test_a_route_is_cancelled_once(self):
-        asked = [set_(0), cancel(0), cancel(0), set_(0), cancel(0)]
-        self.assertEqual(ask_routes([route(0, 1, [0])], asked), [0, 0, -3, 0, 0])
-
-    def test_a_cancel_gives_up_signal_sections_and_points(self):
-        routes = [
-            route(0, 1, [0, 1, 2], [(2, 1), (7, 1)]), route(0, 1, [3]),
-            route(1, 1, [2, 1, 0], [(2, 0), (7, 0)]),
-        ]
-        asked = [set_(0), may(1), may(2), cancel(0), may(1), may(2), set_(2)]
-        self.assertEqual(ask_routes(routes, asked), [0, -3, -4, 0, 0, 0, 0])
-
-    def test_another_route_of_the_signal_isnt_cancelled(self):
-        routes = [route(0, 1, [0]), route(0, 1, [1])]
-        self.assertEqual(ask_routes(routes, [set_(0), cancel(1), may(0), cancel(0)]), [0, -3, -3, 0])
-
-    def test_other_routes_keep_their_locks(self):
-        routes = [route(0, 1, [0]), route(1, 1, [1], [(7, 1)]), route(2, 1, [1]), route(2, 1, [2], [(7, 0)])]
-        asked = [set_(0), set_(1), cancel(0), may(1), may(2), may(3), cancel(1)]
-        self.assertEqual(ask_routes(routes, asked), [0, 0, 0, -3, -4, -5, 0])
-
-    def test_a_section_that_is_locked_for_another_route_stays_so(self):
-        yard = built_yard()
-        with_route(yard, 0, [4, 5])
-        set_route(yard, 0)
-        yard.sections[4].locked_for = 3
-        self.assertEqual(cancel_route(yard, 0), 0)
-        self.assertEqual([yard.sections[4].locked_for, yard.sections[5].locked_for], [3, -1])
-
-    def test_a_free_section_before_the_signal_even_a_locked_one_gives_0(self):
-        built = [SECTION] * 2 + [signal(0), signal(-1)] + [route(0, 1, [1]), route(1, 1, [0])]
-        self.assertEqual(ask_last(built, [set_(0), set_(1), cancel(0), may(0)]), [0, 0, 0, 0])
-
-    def test_an_occupied_section_before_the_signal_gives_120(self):
-        yard = built_yard()
-        with_route(yard, 3, [4, 5], [(4, 1)])
-        with_route(yard, 3, [6])
-        with_route(yard, 0, [5])
-        with_route(yard, 0, [7], [(4, 0)])
-        set_route(yard, 0)
-        yard.sections[3].occupied = 1
-        self.assertEqual(cancel_route(yard, 0), 120)
-        self.assertEqual((yard.routes[0].state, yard.routes[0].train_in), (120, False))
-        self.assertEqual([yard.sections[4].locked_for, yard.sections[5].locked_for], [0, 0])
-        before = picture(yard)
-        self.assertEqual(cancel_route(yard, 0), -3)
-        self.assertEqual([set_route(yard, number) for number in range(4)], [-3, -3, -4, -5])
-        self.assertEqual(picture(yard), before)
-
-    def test_another_occupied_section_doesnt_matter(self):
-        yard = built_yard()
-        with_route(yard, 3, [4])
-        set_route(yard, 0)
-        for section in (0, 1, 2, 4, 5, 6, 7):
-            yard.sections[section].occupied = 1
-        self.assertEqual(cancel_route(yard, 0), 0)
-
-    def test_without_a_section_before_the_signal_the_last_section_doesnt_matter(self):
-        yard = built_yard()
-        of_signal = add_signal(yard, -1)
-        with_route(yard, of_signal, [4])
-        set_route(yard, 0)
-        for section in yard.sections:
-            section.occupied = 1
-        self.assertEqual(cancel_route(yard, 0), 0)
-
-    def test_once_a_train_has_gone_in_it_cant_be_cancelled(self):
-        yard = built_yard()
-        with_route(yard, 3, [4])
-        set_route(yard, 0)
-        yard.routes[0].train_in = True
-        for occupied in (0, 1):
-            yard.sections[3].occupied = occupied
-            before = picture(yard)
-            self.assertEqual(cancel_route(yard, 0), -3)
-            self.assertEqual(picture(yard), before)
+        routes = [route(3, 1, [0], [(0, 1), (7, 1)])]
+        self.assertEqual(held(routes, [set_(0), track(6, 1), cancel(0)]), [0, 7])
 
 
 if __name__ == "__main__":

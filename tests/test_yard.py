@@ -3,9 +3,8 @@
 import unittest
 
 from calls import HIGHEST, LOWEST, SECTION
-from calls import ask, ask_last, may, points, raw_route, route, set_, signal
-from yardlocks.building import add_points, add_route, add_section, add_signal
-from yardlocks.things import Yard
+from calls import ask, ask_last, ask_rows_last, cancel, may, points, raw_route, route, set_, signal
+from calls import tell_points, tell_route, tell_section, track
 
 EXTREMES = (LOWEST, LOWEST + 1, HIGHEST - 1, HIGHEST)
 
@@ -21,9 +20,8 @@ class SectionTest(unittest.TestCase):
         self.assertEqual(ask([SECTION] * 67)[63:], [63, -8, -8, -8])
 
     def test_a_section_is_free_and_not_locked(self):
-        yard = Yard()
-        add_section(yard)
-        self.assertEqual((yard.sections[0].occupied, yard.sections[0].locked_for), (0, -1))
+        told = ask_rows_last([SECTION] * 64, [tell_section(number) for number in range(64)])
+        self.assertEqual(told, [[0, 0, -1]] * 64)
 
 
 class PointsTest(unittest.TestCase):
@@ -50,12 +48,14 @@ class PointsTest(unittest.TestCase):
         self.assertEqual(ask_last(full, [points(1), points(-1), points(0)]), [-2, -2, -8])
 
     def test_points_are_told_0_and_found_nowhere(self):
-        yard = Yard()
-        add_section(yard)
-        add_section(yard)
-        add_points(yard, 1)
-        there = yard.points[0]
-        self.assertEqual((there.section, there.told, there.found), (1, 0, 2))
+        told = ask_rows_last([SECTION] + [points(0)] * 32, [tell_points(number) for number in range(32)])
+        self.assertEqual(told, [[0, 0, 2, 0]] * 32)
+
+    def test_points_lie_in_the_section_that_was_named(self):
+        for section in (0, 1, 2):
+            built = [SECTION] * 4 + [points(section), signal(-1), route(0, 1, [3], [(0, 1)])]
+            told = [ask_last(built + [track(number, 1)], [may(0)])[0] for number in (0, 1, 2)]
+            self.assertEqual([number for number in (0, 1, 2) if told[number] == -5], [section])
 
     def test_points_that_must_lie_at_0_need_not_be_moved_at_first(self):
         # Points 0 lie in section 0, which is locked: only those that must lie otherwise are refused.
@@ -84,11 +84,11 @@ class SignalTest(unittest.TestCase):
         self.assertEqual(ask_last(full, [signal(0), signal(-2), signal(-1)]), [-2, -2, -8])
 
     def test_the_section_before_it_is_kept(self):
-        yard = Yard()
-        add_section(yard)
-        add_signal(yard, -1)
-        add_signal(yard, 0)
-        self.assertEqual(yard.signals, [-1, 0])
+        built = [SECTION] * 3 + [signal(-1), signal(0), signal(1)]
+        built += [route(number, 1, [2]) for number in range(3)]
+        for section, near in ((0, [0, 120, 0]), (1, [0, 0, 120])):
+            told = [ask_last(built, [track(section, 1), set_(k), cancel(k)])[2] for k in range(3)]
+            self.assertEqual(told, near)
 
 
 class RouteTest(unittest.TestCase):
@@ -184,17 +184,20 @@ class RouteTest(unittest.TestCase):
         self.is_taken(route(0, 1, [0, 1], [(7, 1)]))
 
     def test_a_row_is_read_as_sections_then_pairs(self):
-        yard = Yard()
-        for section in range(6):
-            add_section(yard)
-            add_points(yard, section)
-        add_signal(yard, -1)
-        add_signal(yard, 2)
-        self.assertEqual(add_route(yard, 1, 2, 3, 2, [5, 0, 4, 3, 1, 2, 0]), 0)
-        made = yard.routes[0]
-        self.assertEqual((made.signal, made.own, made.sections), (1, 2, [5, 0, 4]))
-        self.assertEqual(list(made.lies.items()), [(3, 1), (2, 0)])
-        self.assertEqual((made.state, made.train_in), (0, False))
+        built = BUILT + [raw_route(1, 2, 3, 2, [5, 0, 4, 3, 1, 2, 0]), set_(0)]
+        told = ask_rows_last(built, [tell_section(number) for number in range(6)])
+        self.assertEqual([row[2] for row in told], [0, -1, -1, -1, 0, 0])
+        told = ask_rows_last(built, [tell_points(number) for number in range(6)])
+        self.assertEqual([row[1] for row in told], [0, 0, 0, 1, 0, 0])
+        self.assertEqual([row[3] for row in told], [0, 0, 1, 1, 0, 0])
+
+    def test_a_route_is_idle_at_first(self):
+        built = BUILT + [route(0, 2, [0, 1, 2], [(0, 1)])] * 3
+        self.assertEqual(ask_rows_last(built, [tell_route(number) for number in range(3)]), [[0, 0, 0, 0]] * 3)
+
+    def test_a_new_route_is_idle_though_another_of_its_signal_isnt(self):
+        built = BUILT + [route(0, 1, [0]), set_(0), track(0, 1), route(0, 1, [0])]
+        self.assertEqual(ask_rows_last(built, [tell_route(0), tell_route(1)]), [[0, -1, 1, 0], [0, 0, 0, 0]])
 
 
 if __name__ == "__main__":

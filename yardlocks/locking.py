@@ -1,4 +1,4 @@
-"""How routes are set and given back."""
+"""How routes are set and given back, and how the time for that passes."""
 
 from yardlocks.things import IDLE
 from yardlocks.things import NO_ROUTE
@@ -12,6 +12,7 @@ SECTION_TAKEN = -4
 POINTS_STUCK = -5
 
 SECONDS_TO_GIVE_BACK = 120
+MOST_SECONDS = 3600
 
 
 def may_set(yard, number):
@@ -47,36 +48,68 @@ def cancel_route(yard, number):
     return 0
 
 
+def pass_seconds(yard, seconds):
+    if not 1 <= seconds <= MOST_SECONDS:
+        return NOT_THERE
+    for number in range(len(yard.routes)):
+        count_down(yard, number, seconds)
+    return 0
+
+
+def count_down(yard, number, seconds):
+    route = yard.routes[number]
+    if not is_being_given_back(route):
+        return
+    if route.state > seconds:
+        route.state -= seconds
+    else:
+        release_route(yard, number)
+
+
 def lock_route(yard, number):
     route = yard.routes[number]
     for section in route.sections:
         yard.sections[section].locked_for = number
     for which, where in route.lies.items():
         yard.points[which].told = where
+    # That no train has gone in needs no word here: an idle route has forgotten its last one.
     route.state = SET
-    route.train_in = False
 
 
 def release_route(yard, number):
     route = yard.routes[number]
     for section in route.sections:
-        # A section that was given up earlier may be locked for another route by now.
-        if yard.sections[section].locked_for == number:
-            yard.sections[section].locked_for = NO_ROUTE
+        unlock_section(yard, section, number)
     route.state = IDLE
+    route.train_in = False
+    route.counted = 0
+    route.freed = 0
+
+
+def unlock_section(yard, section, number):
+    # A section that was given up earlier may be locked for another route by now.
+    if yard.sections[section].locked_for == number:
+        yard.sections[section].locked_for = NO_ROUTE
 
 
 def is_under_way(route):
     return route.state != IDLE
 
 
+def is_being_given_back(route):
+    return is_under_way(route) and route.state != SET
+
+
 def signal_is_in_use(yard, signal):
     return any([route.signal == signal and is_under_way(route) for route in yard.routes])
 
 
+def is_occupied(yard, section):
+    return yard.sections[section].occupied == 1
+
+
 def is_taken(yard, section):
-    there = yard.sections[section]
-    return there.occupied == 1 or there.locked_for != NO_ROUTE
+    return is_occupied(yard, section) or yard.sections[section].locked_for != NO_ROUTE
 
 
 def points_to_move(yard, route):
@@ -101,4 +134,4 @@ def holds(yard, number, which):
 
 def train_may_be_near(yard, signal):
     before = yard.signals[signal]
-    return before != NO_SECTION and yard.sections[before].occupied == 1
+    return before != NO_SECTION and is_occupied(yard, before)

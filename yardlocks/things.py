@@ -35,6 +35,9 @@ class Route:
         self.lies = lies
         self.state = IDLE
         self.train_in = False
+        # Of its own sections, from the first on: how many count, and how many are free again.
+        self.counted = 0
+        self.freed = 0
 
 
 class Yard:
